@@ -1,0 +1,1 @@
+"""Mailslots: letters for people who moved."""
