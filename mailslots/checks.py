@@ -1,12 +1,13 @@
 """What can be handed in: each check refuses what can't be and tells nothing."""
 
-from mailslots.errors import BadLetter, BadPerson, BadTime, BadTown
+from mailslots.errors import BadKeep, BadLetter, BadPerson, BadTime, BadTown
 
 MOST_OFFICES = 6
 MOST_PEOPLE = 6
 MOST_HOMES = 8
 MOST_ORDERS = 20
 MOST_UNDER_WAY = 9
+MOST_KEEP = 60
 LAST_DAY = 1000
 LAST_END = 2000
 
@@ -112,6 +113,12 @@ def check_time(day):
     """Refuse a day that can't be asked for."""
     if not is_day(day):
         raise BadTime("there is no such day")
+
+
+def check_keep(keep):
+    """Refuse a number of days for which an old home's letters can't be kept."""
+    if not is_whole(keep, 1, MOST_KEEP):
+        raise BadKeep("letters are kept for one day to sixty days")
 
 
 def check_coming(town, office, person, day):

@@ -3,7 +3,11 @@
 import unittest
 
 from mailslots.errors import BadPerson, BadTown
+from mailslots.moving import failing, to_give
+from mailslots.posts import Post
+from mailslots.reasons import why
 from mailslots.rings import rings
+from mailslots.texts import with_orders, written
 from mailslots.towns import holds, lives
 from mailslots.ways import way
 from samples import DAYS, HOMES, HUGE, ORDERS, TOWN, even_days, refused, town_of
@@ -13,7 +17,14 @@ CALLS = (
     (holds, (0, 0, 0)),
     (way, ((0, 0, 0, 0),)),
     (rings, (0, 0)),
+    (why, ((0, 0, 0, 0),)),
+    (Post, ()),
+    (to_give, (0, 1)),
+    (failing, (0, 1)),
+    (written, ()),
 )
+# with_orders is not asked about orders here: those of the town give way to those of the text.
+ALL_CALLS = CALLS + ((with_orders, ("",)),)
 NOT_WHOLE = (True, False, None, "1", 1.0)
 
 
@@ -27,7 +38,7 @@ class BadTownsTest(unittest.TestCase):
         self.assertEqual(lives(town, 0, 0), town[1][0][0][1])
 
     def refuse(self, town, word, number):
-        for call, more in CALLS:
+        for call, more in CALLS if word == "orders" else ALL_CALLS:
             with self.subTest(call=call.__name__, town=town):
                 error = refused(self, BadTown, call, town, *more)
                 self.assertEqual((error.word, error.number), (word, number))
@@ -205,7 +216,9 @@ class BadTownsTest(unittest.TestCase):
 
     def test_the_town_is_refused_ahead_of_what_is_handed_in_behind_it(self):
         town = (DAYS, HOMES, ((0, 0, 1, 1, 1),))
-        for call, more in ((lives, (9, 9999)), (holds, (9, 9, 9999)), (way, ((9, 9, 9999, 9),)), (rings, (9, 9999))):
+        letter = (9, 9, 9999, 9)
+        for call, more in ((lives, (9, 9999)), (holds, (9, 9, 9999)), (way, (letter,)), (why, (letter,)),
+                           (rings, (9, 9999)), (to_give, (9, 99)), (failing, (9, 99))):
             error = refused(self, BadTown, call, town, *more)
             self.assertEqual((error.word, error.number), ("orders", 0))
 

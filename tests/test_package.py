@@ -7,6 +7,7 @@ import pathlib
 import unittest
 
 import mailslots
+from mailslots.posts import Post
 
 FOLDER = pathlib.Path(mailslots.__file__).parent
 LIBRARY = {"heapq", "math", "itertools", "collections"}
@@ -14,7 +15,12 @@ INTERFACE = {
     "towns": {"lives": ["town", "person", "day"], "holds": ["town", "office", "person", "day"]},
     "ways": {"way": ["town", "letter"]},
     "rings": {"rings": ["town", "person", "day"]},
+    "reasons": {"why": ["town", "letter"]},
+    "posts": {"Post": ["town"]},
+    "moving": {"to_give": ["town", "person", "keep"], "failing": ["town", "person", "keep"]},
+    "texts": {"written": ["town"], "with_orders": ["town", "text"]},
 }
+POST = {"put": ["letter"], "pass_to": ["day"], "under_way": [], "time": []}
 ERRORS = {"MailError", "BadTown", "BadLetter", "BadTime", "BadPerson", "BadKeep", "BadText"}
 
 
@@ -39,6 +45,11 @@ class InterfaceTest(unittest.TestCase):
             for function, arguments in functions.items():
                 told = inspect.signature(getattr(module, function))
                 self.assertEqual(list(told.parameters), arguments)
+
+    def test_the_methods_stand_in_the_class_itself(self):
+        for name, arguments in POST.items():
+            told = inspect.signature(vars(Post)[name])
+            self.assertEqual(list(told.parameters), ["self", *arguments])
 
 
 class OnlyNumbersTest(unittest.TestCase):
